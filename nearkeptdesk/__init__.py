@@ -1,0 +1,1 @@
+"""Distances kept nearly, whole: the calls are answered by nearkeptdesk.office."""
