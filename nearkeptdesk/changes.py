@@ -17,19 +17,11 @@ def made_anew(desk):
     return after
 
 
-def count_marks(desk):
-    return sum([len(marks) for marks in desk.made.marks])
-
-
-def count_entries(desk):
-    return sum([len(table) for table in desk.made.tables])
-
-
 def put_line(desk, numbers):
     a = numbers[0]
     b = numbers[1]
     length = numbers[2]
-    if not desk.has_places(a, b):
+    if not desk.has_places([a, b]):
         return (NO_SUCH, None)
     if a == b or length < 1 or length > 99:
         return (OUT_OF_RANGE, None)
@@ -65,7 +57,7 @@ def set_order(desk, row):
     after = desk.twin()
     after.order = list(row)
     after.make()
-    return (count_marks(after), after)
+    return (after.made.count_marks(), after)
 
 
 def set_choice(desk, numbers):
@@ -74,7 +66,7 @@ def set_choice(desk, numbers):
     after = desk.twin()
     after.choice = numbers[0]
     after.make()
-    return (count_entries(after), after)
+    return (after.made.count_entries(), after)
 
 
 def choose_by_greed(desk, numbers):
@@ -84,7 +76,7 @@ def choose_by_greed(desk, numbers):
     after = made_anew(desk)
     after.choice = chosen_by_greed(after.made.far, numbers[0])
     after.make()
-    return (count_entries(after), after)
+    return (after.made.count_entries(), after)
 
 
 def make_all(desk, numbers):
@@ -95,7 +87,7 @@ def make_all(desk, numbers):
 def send_one(desk, numbers):
     u = numbers[0]
     v = numbers[1]
-    if not desk.has_places(u, v):
+    if not desk.has_places([u, v]):
         return (NO_SUCH, None)
     if u == v:
         return (OUT_OF_RANGE, None)

@@ -3,7 +3,7 @@
 A desk's values are put in anew, never altered where they lie, so that a twin may share them.
 """
 
-from nearkeptdesk.choice import nearest_chosen
+from nearkeptdesk.choice import chosen_places, near_places, nearest_chosen
 from nearkeptdesk.marks import marks_in_order
 from nearkeptdesk.signposts import address_of, how_far, table_of, way_of
 from nearkeptdesk.ways import distances, kept_lines
@@ -19,9 +19,19 @@ class Made:
         self.source = desk.lines
         self.base = base
         self.far = far
+        self.nearest = nearest
         self.marks = marks_in_order(far, desk.order)
         self.tables = [table_of(far, base, desk.choice, nearest, place) for place in range(count)]
         self.addresses = [address_of(far, base, nearest, place) for place in range(count)]
+
+    def count_marks(self):
+        return sum([len(marks) for marks in self.marks])
+
+    def count_near(self):
+        return sum([len(near_places(self.far, self.nearest, place)) for place in range(len(self.far))])
+
+    def count_entries(self):
+        return sum([len(table) for table in self.tables])
 
 
 class Desk:
@@ -51,12 +61,17 @@ class Desk:
         other.made = self.made
         return other
 
-    def has_places(self, a, b):
-        return a < self.places and b < self.places
+    def has_places(self, numbers):
+        return all([number < self.places for number in numbers])
+
+    def chosen(self):
+        return chosen_places(self.choice, self.places)
+
+    def message_way(self, u, v):
+        return way_of(self.made.tables, self.made.addresses[v], u)
 
     def message_goes(self, u, v):
-        way = way_of(self.made.tables, self.made.addresses[v], u)
-        return how_far(self.lines, way, v)
+        return how_far(self.lines, self.message_way(u, v), v)
 
     def post(self, u, v):
         distance = self.message_goes(u, v)

@@ -2,12 +2,13 @@
 
 from nearkeptdesk.changes import change, is_change
 from nearkeptdesk.desk import new_desk
-from nearkeptdesk.looks import is_look, look
+from nearkeptdesk.looks import look
 from nearkeptdesk.refusals import NOT_BEGUN, NO_CHANGE, OUT_OF_RANGE
 
 BEGIN = 0
 ORDER = 4
 BACK = 25
+STATE = 26
 
 # How many whole numbers stand behind each call's number, the calls from 0 to 26; order has a row instead.
 NUMBERS = (1, 3, 1, 1, 0, 1, 1, 0, 2, 0, 0, 0, 0, 2, 2, 1, 2, 0, 2, 2, 2, 2, 0, 2, 0, 0, 0)
@@ -30,10 +31,9 @@ class Office:
             return self.take_back()
         if is_change(call):
             return self.take_on(change(self.desk, call, numbers))
-        if is_look(call):
-            return look(self.desk, call, numbers)
-        # A call that isn't written yet is passed over, so that those behind it are answered all the same.
-        return []
+        if call == STATE:
+            return self.tell_state()
+        return look(self.desk, call, numbers)
 
     def begin(self, places):
         if places < 1 or places > MOST_PLACES:
@@ -54,6 +54,10 @@ class Office:
         self.desk = self.past[-1]
         self.past = self.past[:-1]
         return [len(self.past)]
+
+    def tell_state(self):
+        desk = self.desk
+        return [desk.places, len(desk.lines), desk.times, desk.choice, len(self.past)]
 
 
 def answers(calls):

@@ -68,25 +68,32 @@ def pairs(places):
 
 
 def looks(places):
-    """All that the looking calls tell."""
-    return [("lines",), ("base",), ("fresh",)] + [("dist", u, v) for u, v in pairs(places) if u < v]
+    """All that the looking calls tell: of two places compare tells what five calls do."""
+    seen = [("lines",), ("base",), ("fresh",), ("chosen",), ("sizes",), ("count",), ("state",)]
+    seen += [("marks", v) for v in range(places)]
+    return seen + [("compare" if u < v else "route", u, v) for u, v in pairs(places)]
 
 
-def probe(places):
-    """All that can be seen of an object: by looking, by messages, by what's made, by taking back."""
-    sends = [("send", u, v) for u, v in pairs(places) if u != v]
-    made = [("make",), ("order", list(range(places))[::-1]), ("choose", 1)]
-    # Taken back from the front: the first ones undo a few sends, the rest what was there before.
-    seen = looks(places) + sends[:4] + [("back",)] * 4 + looks(places)
-    return seen + [("back",)] * 11 + looks(places) + sends + made + looks(places)
+def probes(places):
+    """Lists of calls by which all can be seen of an object: what is there, what was, and the order."""
+    star = [("line", 0, place, 1) for place in range(1, places)]
+    now = looks(places) + star + [("make",)] + [("marks", v) for v in range(places)]
+    past = [("back",), ("state",), ("count",)] * 11 + looks(places)
+    return [now + [("all_sent",), ("count",)], past]
+
+
+def left_as_it_was(before, call, places):
+    """Whether all is the same behind these calls and another one as without that one."""
+    at = len(before)
+    for probe in probes(places):
+        if told(*before, call, *probe)[at + 1:] != told(*before, *probe)[at:]:
+            return False
+    return True
 
 
 def nothing_changed(before, call, places, refusal):
     """Whether the call answers this refusal alone and leaves the object as it was."""
-    plain = told(*before, *probe(places))
-    refused = told(*before, call, *probe(places))
-    at = len(before)
-    return refused[at] == [refusal] and refused[:at] + refused[at + 1:] == plain
+    return last(*before, call) == [refusal] and left_as_it_was(before, call, places)
 
 
 def desk_behind(calls):

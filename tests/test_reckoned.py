@@ -5,9 +5,9 @@ import heapq
 import random
 import unittest
 
-from tests.helper import LARGEST, OTHERS, pairs, told
+from tests.helper import LARGEST, OTHERS, looks, pairs, told
 
-LATER = [call[0] for call in OTHERS[13:] if call[0] != "back"]
+LOOKS = [call[0] for call in OTHERS[9:] if call[0] != "back"]
 
 
 def ways_from(roads, places, start):
@@ -46,11 +46,9 @@ class Reckoning:
             return [-11]
         if name == "back":
             return self.back()
-        if name in LATER:
-            return None
         act = getattr(self, name)
-        if name in ("lines", "base", "fresh", "dist"):
-            return act(*numbers)
+        if name in LOOKS:
+            return [-2] if any(number >= self.places for number in numbers) else act(*numbers)
         before = copy.deepcopy({key: value for key, value in vars(self).items() if key != "past"})
         number = act(*numbers)
         if number >= 0:
@@ -60,7 +58,8 @@ class Reckoning:
     def begin(self, n):
         if n not in range(1, 9):
             return [-22]
-        self.places, self.roads, self.t, self.row, self.chosen, self.past = n, {}, 1, list(range(n)), [], []
+        self.places, self.roads, self.t, self.row, self.choice, self.past = n, {}, 1, list(range(n)), [], []
+        self.sent = []
         self.make()
         return [0]
 
@@ -74,15 +73,59 @@ class Reckoning:
         return told_roads(self.roads)
 
     def base(self):
-        return told_roads(self.kept)
+        return told_roads(self.base_roads)
 
     def fresh(self):
         return [int(self.roads == self.made_of)]
 
     def dist(self, u, v):
-        if max(u, v) >= self.places:
-            return [-2]
         return [ways_from(self.roads, self.places, u).get(v, -33)]
+
+    def kept(self, u, v):
+        return [self.far[u].get(v, -33)]
+
+    def marks(self, v):
+        own = self.marked[v]
+        return [len(own)] + [number for mark in own.items() for number in mark]
+
+    def bymarks(self, u, v):
+        both = self.marked[u].keys() & self.marked[v].keys()
+        return [min([self.marked[u][x] + self.marked[v][x] for x in both], default=-33)]
+
+    def chosen(self):
+        return [len(self.choice)] + sorted(self.choice)
+
+    def bychosen(self, u, v):
+        if v in self.near(u) or u in self.near(v):
+            return [self.far[u][v]]
+        seen = [c for c in (self.nearest[u], self.nearest[v]) if c in self.far[u] and c in self.far[v]]
+        return [min([self.far[u][c] + self.far[v][c] for c in seen], default=-33)]
+
+    def route(self, u, v):
+        way = self.way(u, v)
+        return [len(way)] + way
+
+    def comes(self, u, v):
+        return [int(self.goes(u, v) is not None)]
+
+    def length(self, u, v):
+        distance = self.goes(u, v)
+        return [-33 if distance is None else distance]
+
+    def sizes(self):
+        near = sum(len(self.near(place)) + len(self.choice) for place in range(self.places))
+        return [4, len(self.base_roads), sum(len(own) for own in self.marked), near, self.entries()]
+
+    def compare(self, u, v):
+        told_of = [call(u, v)[0] for call in (self.dist, self.kept, self.bymarks, self.bychosen, self.length)]
+        return [0] + [-1 if number == -33 else number for number in told_of]
+
+    def count(self):
+        came = [distance for distance in self.sent if distance is not None]
+        return [len(self.sent), len(self.sent) - len(came), sum(came)]
+
+    def state(self):
+        return [self.places, len(self.roads), self.t, sum(2 ** place for place in self.choice), len(self.past)]
 
     def line(self, a, b, w):
         if max(a, b) >= self.places:
@@ -102,24 +145,34 @@ class Reckoning:
 
     def make(self):
         self.made_of = dict(self.roads)
-        self.kept = {}
+        self.base_roads = {}
         for length, a, b in in_order(self.roads):
-            distance = ways_from(self.kept, self.places, a).get(b)
+            distance = ways_from(self.base_roads, self.places, a).get(b)
             if distance is None or distance > self.t * length:
-                self.kept[frozenset((a, b))] = length
-        self.far = [ways_from(self.kept, self.places, place) for place in range(self.places)]
+                self.base_roads[frozenset((a, b))] = length
+        self.far = [ways_from(self.base_roads, self.places, place) for place in range(self.places)]
         self.nearest = []
         for place in range(self.places):
-            reached = [(self.far[place][c], c) for c in self.chosen if c in self.far[place]]
+            reached = [(self.far[place][c], c) for c in self.choice if c in self.far[place]]
             self.nearest.append(min(reached)[1] if reached else None)
-        return len(self.kept)
+        self.mark_all()
+        return len(self.base_roads)
+
+    def mark_all(self):
+        self.marked = [{} for place in range(self.places)]
+        for marker in self.row:
+            before = copy.deepcopy(self.marked)
+            for place, distance in self.far[marker].items():
+                both = before[marker].keys() & before[place].keys()
+                if distance not in [before[marker][x] + before[place][x] for x in both]:
+                    self.marked[place][marker] = distance
 
     def near(self, place):
         far, nearest = self.far[place], self.nearest[place]
         return [other for other in far if nearest is None or far[other] < far[nearest]]
 
     def table(self, place):
-        return [v for v in self.far[place] if v != place and (v in self.chosen or place in self.near(v))]
+        return [v for v in self.far[place] if v != place and (v in self.choice or place in self.near(v))]
 
     def entries(self):
         return sum(len(self.table(place)) for place in range(self.places))
@@ -135,19 +188,12 @@ class Reckoning:
             return -22
         self.row = list(row)
         self.make()
-        marks = {place: {} for place in range(self.places)}
-        for marker in self.row:
-            before = copy.deepcopy(marks)
-            for place, distance in self.far[marker].items():
-                both = before[marker].keys() & before[place].keys()
-                if distance not in [before[marker][x] + before[place][x] for x in both]:
-                    marks[place][marker] = distance
-        return sum(len(own) for own in marks.values())
+        return sum(len(own) for own in self.marked)
 
     def choose(self, s):
         if s >= 2 ** self.places:
             return -22
-        self.chosen = [place for place in range(self.places) if s // 2 ** place % 2]
+        self.choice = [place for place in range(self.places) if s // 2 ** place % 2]
         self.make()
         return self.entries()
 
@@ -166,12 +212,12 @@ class Reckoning:
 
     def onward(self, start, end):
         for beside in range(self.places):
-            length = self.kept.get(frozenset((start, beside)))
+            length = self.base_roads.get(frozenset((start, beside)))
             if length is not None and length + self.far[beside].get(end, LARGEST) == self.far[start][end]:
                 return beside
         raise AssertionError("no way leads there")
 
-    def route(self, u, v):
+    def way(self, u, v):
         chosen, way = self.nearest[v], [u]
         while chosen is not None and way[-1] != v:
             here = way[-1]
@@ -191,11 +237,17 @@ class Reckoning:
             return -2
         if u == v:
             return -22
-        way = self.route(u, v)
-        return int(way[-1] == v and all(frozenset(step) in self.roads for step in zip(way, way[1:])))
+        self.sent.append(self.goes(u, v))
+        return int(self.sent[-1] is not None)
+
+    def goes(self, u, v):
+        way = self.way(u, v)
+        lengths = [self.roads.get(frozenset(step)) for step in zip(way, way[1:])]
+        return sum(lengths) if way[-1] == v and None not in lengths else None
 
     def all_sent(self):
-        return self.places * (self.places - 1)
+        sent = [self.send(u, v) for u, v in pairs(self.places) if u != v]
+        return len(sent)
 
 
 def some_number(source, most):
@@ -226,9 +278,7 @@ class ReckonedTest(unittest.TestCase):
         reckoning = Reckoning()
         rows = told(*calls)
         for at, call in enumerate(calls):
-            expected = reckoning.answer(*call)
-            if expected is not None:
-                self.assertEqual(rows[at], expected, calls[:at + 1])
+            self.assertEqual(rows[at], reckoning.answer(*call), calls[:at + 1])
 
     def test_any_calls(self):
         for seed in range(120):
@@ -236,8 +286,8 @@ class ReckonedTest(unittest.TestCase):
             places = source.choice([1, 2, 3, 4, 5, 6, 7, 8, 8])
             calls = [some_call(source, places) for again in range(source.choice([0, 2]))] + [("begin", places)]
             calls += [some_call(source, places) for again in range(source.randint(10, 200))]
-            calls += [("lines",), ("base",), ("fresh",)]
             self.held(calls)
+            self.held(calls[:150] + looks(places))
 
     def test_lands_made_just_now(self):
         for seed in range(60):
@@ -249,38 +299,10 @@ class ReckonedTest(unittest.TestCase):
                 calls.append(("line", a, b, source.randint(1, source.choice([3, 30, 99]))))
             calls += [("times", source.randint(1, 9)), ("order", source.sample(range(places), places))]
             calls.append(source.choice([("greedy", source.randint(1, 8)), ("choose", source.randrange(2 ** places))]))
-            calls += [("base",)] + [("send", u, v) for u, v in pairs(places)]
-            self.held(calls)
-
-
-class HoldsTest(unittest.TestCase):
-    def land(self, source, places):
-        roads = {}
-        for again in range(source.randint(0, 14)):
-            roads[frozenset(source.sample(range(places), 2))] = source.randint(1, source.choice([2, 9, 99]))
-        laid = [("line", *ends, length) for ends, length in roads.items()]
-        return roads, [("begin", places)] + laid
-
-    def test_what_is_kept_is_at_most_t_times_as_long(self):
-        for seed in range(80):
-            source = random.Random(2000 + seed)
-            places, t = source.randint(2, 8), source.randint(1, 9)
-            roads, laid = self.land(source, places)
-            base = told(*laid, ("times", t), ("base",))[-1]
-            kept = {frozenset(base[at:at + 2]): base[at + 2] for at in range(1, len(base), 3)}
-            for place in range(places):
-                least = ways_from(roads, places, place)
-                most = ways_from(kept, places, place)
-                self.assertEqual(sorted(least), sorted(most))
-                self.assertTrue(all(least[x] <= most[x] <= t * least[x] for x in least))
-
-    def test_each_message_comes_that_can(self):
-        for seed in range(60):
-            source = random.Random(3000 + seed)
-            places = source.randint(2, 8)
-            laid = self.land(source, places)[1] + [("times", source.randint(1, 9)), ("greedy", source.randint(1, 8))]
-            for u, v in pairs(places):
-                if u < v:
-                    rows = told(*laid, ("dist", u, v), ("send", u, v), ("send", v, u))
-                    comes = [0] if rows[-3] == [-33] else [1]
-                    self.assertEqual(rows[-2:], [comes, comes])
+            self.held(calls + looks(places))
+            self.held(calls + [("send", u, v) for u, v in pairs(places)] + [("count",)])
+            # Another line, then one gone: what was made stays, and the land is another one.
+            calls += [("line", 0, 1, source.randint(1, 99)), ("cut", 0)]
+            self.held(calls + looks(places) + [("all_sent",), ("count",)])
+            for name in ("bymarks", "bychosen", "route", "comes", "length"):
+                self.held(calls + [(name, u, v) for u, v in pairs(places)])
